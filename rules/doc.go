@@ -1,0 +1,2 @@
+// Package rules has only tests: of what holds for the tree as a whole, whichever layer it is.
+package rules
