@@ -21,7 +21,8 @@ type held struct {
 // plain is the chapter's shadow by one list of the entries of all owners, which is gone through one by one.
 type plain struct{ list []held }
 
-// put lays e into the list, if there is room, and nothing of its owner and key that is as new, or newer.
+// put lays e into the list, if nothing of its owner and key is there that is as new, or newer; it is false if there is no
+// room.
 func (p *plain) put(owner uint32, e api.Entry) bool {
 	count := 0
 	for i, h := range p.list {
@@ -32,11 +33,10 @@ func (p *plain) put(owner uint32, e api.Entry) bool {
 		if h.entry.Value != e.Value || h.entry.Record.Id != e.Record.Id {
 			continue
 		}
-		age := cmp.Or(cmp.Compare(e.Record.Version, h.entry.Record.Version), bit(e.Gone)-bit(h.entry.Gone))
-		if age > 0 {
+		if cmp.Or(cmp.Compare(e.Record.Version, h.entry.Record.Version), bit(e.Gone)-bit(h.entry.Gone)) > 0 {
 			p.list[i].entry = deep(e)
 		}
-		return age >= 0
+		return true
 	}
 	if count == api.MaxEntries {
 		return false

@@ -31,40 +31,41 @@ func TestP10_1New(t *testing.T) {
 	newPair().check(t, "another new one")
 }
 
-// TestP10_1Put lays one entry, and another one of its key, which has other Values.
+// TestP10_1Put lays one entry, and another one of its key, which has other Values: true, whichever of the two is
+// there by then.
 func TestP10_1Put(t *testing.T) {
 	is := func(version uint64, values ...uint32) api.Entry { return entry(5, 7, version, values...) }
 	for _, r := range []struct {
 		what          string
 		first, second api.Entry
-		want, laid    bool
+		laid          bool
 	}{
-		{"newer", is(1, 5), is(2, 6), true, true},
-		{"newer, with no Values", is(1, 5), is(2), true, true},
-		{"newer than one with no Values", is(1), is(2, 5, 6), true, true},
-		{"newer, by high bits", is(math.MaxUint32, 5), is(1<<32, 6), true, true},
-		{"newer, by the highest bit", is(1<<63-1, 5), is(1<<63, 6), true, true},
-		{"newer, and Gone", is(1, 5), gone(is(2, 6)), true, true},
-		{"newer, of one that is Gone", gone(is(1, 5)), is(2, 6), true, true},
-		{"newer, both Gone", gone(is(1, 5)), gone(is(2, 6)), true, true},
-		{"newer, as it is Gone", is(2, 5), gone(is(2, 6)), true, true},
-		{"newer, as it is Gone, of version 0", is(0, 5), gone(is(0, 6)), true, true},
-		{"older", is(2, 5), is(1, 6), false, false},
-		{"older, with the same Values", is(2, 5), is(1, 5), false, false},
-		{"older, by high bits", is(1<<32, 5), is(math.MaxUint32, 6), false, false},
-		{"older, by the highest bit", is(1<<63, 5), is(1<<63-1, 6), false, false},
-		{"older, and Gone", is(2, 5), gone(is(1, 6)), false, false},
-		{"older, of one that is Gone", gone(is(2, 5)), is(1, 6), false, false},
-		{"older, both Gone", gone(is(2, 5)), gone(is(1, 6)), false, false},
-		{"older, as the other one is Gone", gone(is(2, 5)), is(2, 6), false, false},
-		{"older, as the other one is Gone, of version 0", gone(is(0, 5)), is(0, 5), false, false},
-		{"the same", is(2, 5), is(2, 5), true, false},
-		{"as new, with other Values", is(2, 5), is(2, 6), true, false},
-		{"as new, with no Values", is(2, 5), is(2), true, false},
-		{"as new, both Gone", gone(is(2, 5)), gone(is(2, 6)), true, false},
-		{"as new, of version 0", is(0, 5), is(0, 6), true, false},
-		{"as new, of version 0, both Gone", gone(is(0, 5)), gone(is(0, 6)), true, false},
-		{"as new, of the greatest version", is(math.MaxUint64, 5), is(math.MaxUint64, 6), true, false},
+		{"newer", is(1, 5), is(2, 6), true},
+		{"newer, with no Values", is(1, 5), is(2), true},
+		{"newer than one with no Values", is(1), is(2, 5, 6), true},
+		{"newer, by high bits", is(math.MaxUint32, 5), is(1<<32, 6), true},
+		{"newer, by the highest bit", is(1<<63-1, 5), is(1<<63, 6), true},
+		{"newer, and Gone", is(1, 5), gone(is(2, 6)), true},
+		{"newer, of one that is Gone", gone(is(1, 5)), is(2, 6), true},
+		{"newer, both Gone", gone(is(1, 5)), gone(is(2, 6)), true},
+		{"newer, as it is Gone", is(2, 5), gone(is(2, 6)), true},
+		{"newer, as it is Gone, of version 0", is(0, 5), gone(is(0, 6)), true},
+		{"older", is(2, 5), is(1, 6), false},
+		{"older, with the same Values", is(2, 5), is(1, 5), false},
+		{"older, by high bits", is(1<<32, 5), is(math.MaxUint32, 6), false},
+		{"older, by the highest bit", is(1<<63, 5), is(1<<63-1, 6), false},
+		{"older, and Gone", is(2, 5), gone(is(1, 6)), false},
+		{"older, of one that is Gone", gone(is(2, 5)), is(1, 6), false},
+		{"older, both Gone", gone(is(2, 5)), gone(is(1, 6)), false},
+		{"older, as the other one is Gone", gone(is(2, 5)), is(2, 6), false},
+		{"older, as the other one is Gone, of version 0", gone(is(0, 5)), is(0, 5), false},
+		{"the same", is(2, 5), is(2, 5), false},
+		{"as new, with other Values", is(2, 5), is(2, 6), false},
+		{"as new, with no Values", is(2, 5), is(2), false},
+		{"as new, both Gone", gone(is(2, 5)), gone(is(2, 6)), false},
+		{"as new, of version 0", is(0, 5), is(0, 6), false},
+		{"as new, of version 0, both Gone", gone(is(0, 5)), gone(is(0, 6)), false},
+		{"as new, of the greatest version", is(math.MaxUint64, 5), is(math.MaxUint64, 6), false},
 	} {
 		s := shadow.New()
 		if !s.Put(9, r.first) {
@@ -75,8 +76,8 @@ func TestP10_1Put(t *testing.T) {
 			left = r.second
 		}
 		for turn := range 2 { // what was laid is as new as itself; what was not is so again
-			if got := s.Put(9, r.second); got != r.want {
-				t.Errorf("%s: the second Put, turn %d: %v; want %v", r.what, turn, got, r.want)
+			if !s.Put(9, r.second) {
+				t.Errorf("%s: the second Put, turn %d: false", r.what, turn)
 			}
 			alike(t, r.what, 9, s.Of(9), []api.Entry{left})
 		}
@@ -122,12 +123,9 @@ func TestP10_1PutFull(t *testing.T) {
 	p.check(t, "full, and refused")
 	for _, i := range []int{0, 1, 4999, api.MaxEntries - 1} {
 		e := entry(l[i].Value, l[i].Record.Id, 20, 3)
-		for _, r := range []struct {
-			e    api.Entry
-			want bool
-		}{{l[i], true}, {entry(e.Value, e.Record.Id, 0), false}, {e, true}, {e, true}, {l[i], false}, {gone(e), true}, {e, false}, {gone(e), true}} {
-			if got := p.put(t, 5, r.e); got != r.want {
-				t.Errorf("Put(%v) to a full shelf that has its key: %v; want %v", r.e, got, r.want)
+		for _, e := range []api.Entry{l[i], entry(e.Value, e.Record.Id, 0), e, e, l[i], gone(e), e, gone(e)} {
+			if !p.put(t, 5, e) {
+				t.Errorf("Put(%v) to a full shelf that has its key: false", e)
 			}
 		}
 	}
